@@ -1,0 +1,1 @@
+"""Bridgeyard: lans kept apart on shared roads."""
