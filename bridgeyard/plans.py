@@ -1,6 +1,6 @@
 """Plans: which can be, what is handed in beside them, and what is plain from them alone."""
 
-from bridgeyard.errors import BadBridge, BadPlan, BadRoad
+from bridgeyard.errors import BadBridge, BadCount, BadHost, BadLan, BadPlan, BadRoad
 
 MOST_BRIDGES = 6
 MOST_ROADS = 8
@@ -75,6 +75,24 @@ def _are_lans(lans):
     return list(lans) == sorted(set(lans))
 
 
+def check_count(count, least, last):
+    """Refuse what is no number from least to last."""
+    if not is_number(count, least, last):
+        raise BadCount(f"no number from {least} to {last}")
+
+
+def check_host(host):
+    """Refuse what is no host."""
+    if not is_host(host):
+        raise BadHost("no host")
+
+
+def check_lan(lan):
+    """Refuse what is no lan."""
+    if not is_lan(lan):
+        raise BadLan("no lan")
+
+
 def check_bridge(plan, bridge):
     """Refuse what is no bridge of the plan."""
     if not is_number(bridge, 0, len(plan[0]) - 1):
@@ -87,6 +105,13 @@ def check_road(plan, road):
         raise BadRoad("no road of the plan")
 
 
+def check_member(plan, road, member):
+    """Refuse what is no member of a road of the plan."""
+    check_road(plan, road)
+    if not is_number(member, 0, plan[1][road][3] - 1):
+        raise BadRoad("no member of the road")
+
+
 def check_down(plan, down):
     """Refuse what is no tuple of members of the plan's roads."""
     if not isinstance(down, tuple):
@@ -95,9 +120,7 @@ def check_down(plan, down):
         if not is_tuple(pair, 2):
             raise BadRoad("no road and member")
         road, member = pair
-        check_road(plan, road)
-        if not is_number(member, 0, plan[1][road][3] - 1):
-            raise BadRoad("no member of the road")
+        check_member(plan, road, member)
 
 
 def name_of(plan, bridge):
@@ -105,13 +128,14 @@ def name_of(plan, bridge):
     return plan[0][bridge], bridge
 
 
+def members_up(plan, road, down):
+    """The numbers of a road's members that are up, rising."""
+    return [member for member in range(plan[1][road][3]) if (road, member) not in down]
+
+
 def roads_up(plan, down):
     """The numbers of the roads of which a member is up, rising."""
-    return [number for number, road in enumerate(plan[1]) if _is_up(number, road[3], down)]
-
-
-def _is_up(number, members, down):
-    return any([(number, member) not in down for member in range(members)])
+    return [road for road in range(len(plan[1])) if members_up(plan, road, down)]
 
 
 def other_end(road, bridge):

@@ -1,8 +1,8 @@
 """The tree that is left of a plan's roads, and whom a frame reaches by it."""
 
-from bridgeyard.errors import BadHost, BadLan
-from bridgeyard.plans import check_bridge, check_down, check_plan
-from bridgeyard.plans import is_host, is_lan, is_tuple, name_of, other_end, roads_up
+from bridgeyard.errors import BadHost
+from bridgeyard.plans import check_bridge, check_down, check_host, check_lan, check_plan
+from bridgeyard.plans import is_host, is_tuple, name_of, other_end, roads_up
 
 
 def tree(plan, *, down=()):
@@ -54,8 +54,8 @@ def reach(plan, hosts, source, *, to=None, down=()):
     places = _places(plan, hosts)
     if not is_host(source) or source not in places:
         raise BadHost("the source is none of the hosts")
-    if to is not None and not is_host(to):
-        raise BadHost("no host to hear the frame")
+    if to is not None:
+        check_host(to)
     bridge, lan = places[source]
     near = _joined(plan, tree(plan, down=down)[2], bridge, lan)
     heard = [host for host in sorted(places) if _hears(places[host], near, lan)]
@@ -74,8 +74,7 @@ def _places(plan, hosts):
         if not is_host(host) or host in places:
             raise BadHost("no host, or one told twice")
         check_bridge(plan, bridge)
-        if not is_lan(lan):
-            raise BadLan("no lan")
+        check_lan(lan)
         places[host] = (bridge, lan)
     return places
 

@@ -180,6 +180,30 @@ class StatementsTest(unittest.TestCase):
         for path, node in nodes((ast.FunctionDef, ast.ClassDef)):
             self.assertEqual(node.decorator_list, [], where(path, node))
 
+    def test_captured_names_are_no_parameters_and_no_other_locals(self):
+        for path, node in nodes(ast.FunctionDef):
+            captured = {inner.name for inner in ast.walk(node) if isinstance(inner, ast.MatchAs)} - {None}
+            taken = {inner.arg for inner in ast.walk(node) if isinstance(inner, ast.arg)}
+            for inner in ast.walk(node):
+                if isinstance(inner, ast.Name) and isinstance(inner.ctx, ast.Store):
+                    taken.add(inner.id)
+            self.assertEqual(captured & taken, set(), where(path, node))
+
+    def test_what_stands_in_a_finally_is_simple(self):
+        for path, node in nodes(ast.Try):
+            for row in node.finalbody:
+                self.assertIsInstance(row, (ast.Assign, ast.Expr), where(path, row))
+                for inner in ast.walk(row):
+                    self.assertNotIsInstance(inner, (ast.Subscript, ast.BinOp, ast.UnaryOp), where(path, row))
+                    if isinstance(inner, ast.Call):
+                        self.assertIn(inner.func.attr, ("append", "clear"), where(path, row))
+
+    def test_only_own_errors_are_caught(self):
+        own = bound(TREES[PACKAGE / "errors.py"])
+        for path, node in nodes(ast.ExceptHandler):
+            self.assertIsInstance(node.type, ast.Name, where(path, node))
+            self.assertIn(node.type.id, own, where(path, node))
+
     def test_module_level_holds_plain_values_alone(self):
         for path, parsed in TREES.items():
             kinds = (ast.ImportFrom, ast.FunctionDef, ast.ClassDef, ast.Assign)

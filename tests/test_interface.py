@@ -1,4 +1,4 @@
-"""The interface that has landed: its names, their files, and their arguments."""
+"""The interface: its names, their files, and their arguments."""
 
 import importlib
 import inspect
@@ -7,7 +7,10 @@ import unittest
 FUNCTIONS = {
     ("trees", "tree"): "(plan, *, down=())",
     ("trees", "reach"): "(plan, hosts, source, *, to=None, down=())",
+    ("notes", "written"): "(plan)",
+    ("notes", "read"): "(text)",
 }
+CONSTANTS = {("tables", "KEEP"): 8, ("tables", "MOST_ROWS"): 12, ("yards", "GUARD"): 3}
 CLASSES = {
     ("speakers", "Speaker"): {
         "__init__": "(self, plan, bridge)",
@@ -15,6 +18,35 @@ CLASSES = {
         "hear": "(self, road, letter)",
         "turn": "(self, *, down=())",
         "told": "(self)",
+    },
+    ("tables", "Table"): {
+        "__init__": "(self, *, keep=8, most=12)",
+        "learn": "(self, now, lan, host, port)",
+        "forget": "(self, kind)",
+        "strike": "(self, lan, host)",
+        "find": "(self, now, lan, host)",
+        "rows": "(self, now)",
+    },
+    ("yards", "Yard"): {
+        "__init__": "(self, plan, *, keep=8, most=12, guard=3)",
+        "plug": "(self, host, bridge, lan)",
+        "unplug": "(self, host)",
+        "cut": "(self, road, member)",
+        "mend": "(self, road, member)",
+        "tick": "(self)",
+        "send": "(self, host, *, to=None, times=1)",
+        "carry": "(self, road, member, *, back=False)",
+        "is_open": "(self)",
+        "rest": "(self)",
+        "heard": "(self, host)",
+        "rows": "(self, bridge)",
+        "hosts": "(self)",
+        "lying": "(self)",
+        "down": "(self)",
+        "together": "(self, deeds)",
+        "log": "(self)",
+        "tree": "(self)",
+        "counts": "(self)",
     },
 }
 ERRORS = (
@@ -41,6 +73,12 @@ class InterfaceTest(unittest.TestCase):
             for method, arguments in methods.items():
                 with self.subTest(f"{word}.{method}"):
                     self.assertEqual(str(inspect.signature(vars(kind)[method])), arguments)
+
+    def test_constants(self):
+        for (file, word), number in CONSTANTS.items():
+            module = importlib.import_module(f"bridgeyard.{file}")
+            with self.subTest(word):
+                self.assertEqual(vars(module)[word], number)
 
     def test_errors(self):
         for word in ERRORS:

@@ -1,10 +1,12 @@
-"""What tree, reach and Speaker refuse of a plan, ahead of whatever else is handed in."""
+"""What everything that is handed a plan refuses of it, ahead of whatever else is handed in."""
 
 import unittest
 
 from bridgeyard.errors import BadPlan
+from bridgeyard.notes import written
 from bridgeyard.speakers import Speaker
 from bridgeyard.trees import reach, tree
+from bridgeyard.yards import Yard
 from wrong import RANKS, ROAD, bad_plans
 
 ASKED = {
@@ -14,6 +16,9 @@ ASKED = {
     "reach, all wrong too": lambda plan: reach(plan, None, None, to=True, down=None),
     "Speaker": lambda plan: Speaker(plan, 0),
     "Speaker, bridge wrong too": lambda plan: Speaker(plan, None),
+    "Yard": lambda plan: Yard(plan),
+    "Yard, all wrong too": lambda plan: Yard(plan, keep=0, most=None, guard=True),
+    "written": lambda plan: written(plan),
 }
 
 
@@ -40,6 +45,8 @@ class BadPlanTest(unittest.TestCase):
                 self.assertEqual(len(tree(plan)[0]), len(plan[0]))
                 self.assertEqual(reach(plan, [(0, 0, 0)], 0), [])
                 self.assertEqual(Speaker(plan, 0).told(), (0, 0, None))
+                self.assertEqual(Yard(plan).tree(), tree(plan))
+                self.assertTrue(written(plan).startswith("bridges "))
 
 
 if __name__ == "__main__":
